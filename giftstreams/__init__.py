@@ -1,0 +1,1 @@
+"""Giftstreams: rows of gifts that are drawn only when somebody asks."""
