@@ -4,6 +4,10 @@ import importlib
 import os
 import unittest
 
+from giftstreams.rows import Row
+
+UPON_OTHERS = ["__init__", "next_answer", "copy_on"]
+
 PLACES = {
     "errors": {
         "GiftError": [], "NoRow": [], "Held": [], "Closed": [], "NoNumbers": [],
@@ -18,7 +22,10 @@ PLACES = {
     "sources": {
         "Listed": ["__init__", "drawn"],
         "Counted": ["__init__", "drawn"],
-        "ToldBy": ["__init__", "drawn"]}}
+        "ToldBy": ["__init__", "drawn"]},
+    "turned": {"Turned": UPON_OTHERS, "Sieved": UPON_OTHERS},
+    "cuts": {"Cut": UPON_OTHERS, "Left": UPON_OTHERS, "Upto": UPON_OTHERS},
+    "joined": {"Chained": UPON_OTHERS, "Beside": UPON_OTHERS}}
 
 FOLDER = os.path.join(os.path.dirname(os.path.dirname(os.path.abspath(__file__))), "giftstreams")
 
@@ -37,6 +44,13 @@ class LayoutTest(unittest.TestCase):
             for name, methods in names.items():
                 for method in methods:
                     self.assertIn(method, vars(getattr(module, name)), name)
+
+    def test_each_sort_of_row_stands_straight_under_row(self):
+        for file, names in PLACES.items():
+            module = importlib.import_module("giftstreams." + file)
+            for name, methods in names.items():
+                if methods and name != "Row":
+                    self.assertEqual(getattr(module, name).__bases__, (Row,), name)
 
     def test_files_are_plain(self):
         for name in sorted(os.listdir(FOLDER)):
