@@ -3,9 +3,13 @@ iterators, which draw only when somebody asks, too."""
 
 import itertools
 
+from giftstreams.ahead import Ahead
 from giftstreams.cuts import Cut, Left, Upto
+from giftstreams.groups import Groups
 from giftstreams.joined import Beside, Chained
+from giftstreams.splits import split
 from giftstreams.turned import Sieved, Turned
+from giftstreams.windows import Windows
 from tests.helpers import scripted
 
 END = ("end",)
@@ -24,6 +28,11 @@ def iterated(script, counts, at):
         if answer[0] == "end":
             return
         yield answer[1]
+
+
+def for_good(iterator):
+    """The iterator, but once it has ended it draws nothing more."""
+    yield from iterator
 
 
 class Likeness:
@@ -64,6 +73,25 @@ def with_weight(thing):
     return (weight(thing), thing)
 
 
+def mark(thing):
+    return weight(thing) // 4 % 3
+
+
+def windows(iterator, size, step):
+    """Whole windows alone, one behind another."""
+    window = tuple(itertools.islice(iterator, size))
+    while len(window) == size:
+        yield window
+        kept = window[step:]
+        for _ in range(step - size):
+            next(iterator, None)
+        window = kept + tuple(itertools.islice(iterator, size - len(kept)))
+
+
+def marks(iterator):
+    return (key for key, _ in itertools.groupby(iterator, mark))
+
+
 # Of a row and another one: how a third one is made, and how its likeness.
 WAYS = {
     "turned": (
@@ -95,7 +123,28 @@ WAYS = {
     "beside to the left": (lambda one, other: Beside([one, other]), zip),
     "beside to the right": (
         lambda one, other: Beside([other, one]), lambda one, other: zip(other, one)),
-    "beside alone": (lambda one, other: Beside([one]), lambda one, other: zip(one))}
+    "beside alone": (lambda one, other: Beside([one]), lambda one, other: zip(one)),
+    "ahead": (lambda one, other: Ahead(one), lambda one, other: one),
+    "windows 2 by 1": (
+        lambda one, other: Windows(one, 2, 1), lambda one, other: windows(one, 2, 1)),
+    "windows 2 by 2": (
+        lambda one, other: Windows(one, 2, 2), lambda one, other: windows(one, 2, 2)),
+    "windows 1 by 3": (
+        lambda one, other: Windows(one, 1, 3), lambda one, other: windows(one, 1, 3)),
+    "groups": (lambda one, other: Groups(one, mark), lambda one, other: marks(one))}
+
+# Their copies hang on the same source as they do.
+READERS_TOO = {
+    **WAYS,
+    "a reader": (
+        lambda one, other: split(one, 2)[1],
+        lambda one, other: itertools.tee(one)[1]),
+    "two readers beside one another": (
+        lambda one, other: Beside(split(one, 2)),
+        lambda one, other: zip(*itertools.tee(one))),
+    "two readers chained": (
+        lambda one, other: Chained(split(one, 2)),
+        lambda one, other: itertools.chain(*itertools.tee(one)))}
 
 
 def gifts(*numbers):
@@ -124,7 +173,7 @@ def grown(names, lowest, other, log=None):
     alike = [iterated(script, counts, at) for at, script in enumerate(scripts)]
     row, iterator = rows[0], alike[0]
     for at, name in enumerate(names):
-        make, likened = WAYS[name]
+        make, likened = READERS_TOO[name]
         row = make(row, rows[at + 1])
-        iterator = likened(iterator, alike[at + 1])
+        iterator = for_good(likened(iterator, alike[at + 1]))
     return row, Likeness(iterator), rows, counts

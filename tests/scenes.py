@@ -1,9 +1,12 @@
 """Rows upon others, each with what it has to answer and draw, asking by
 asking, till behind its end."""
 
+from giftstreams.ahead import Ahead
 from giftstreams.cuts import Cut, Left, Upto
+from giftstreams.groups import Groups
 from giftstreams.joined import Beside, Chained
 from giftstreams.turned import Sieved, Turned
+from giftstreams.windows import Windows
 from tests.helpers import scripted
 
 END = ("end",)
@@ -282,5 +285,105 @@ DEEP_SCENES = [
         [[*gifts(1), END], gifts(2, 3), [END], gifts(4)],
         [(gift(1), (1, 0, 0, 0)), (gift(2), (2, 1, 0, 0)), (gift(4), (2, 1, 1, 1)),
          (END, (2, 1, 1, 1))])]
+
+AHEAD_SCENES = [
+    Scene(
+        "ahead",
+        lambda rows: Ahead(rows[0]),
+        [[*gifts(1), gift(2, (3,)), END]],
+        [(gift(1), (1,)), (gift(2, (3,)), (2,)), (END, (3,))]),
+    Scene(
+        "ahead, a fault",
+        lambda rows: Ahead(rows[0]),
+        [[*gifts(1), TORN]],
+        [(gift(1), (1,)), (TORN, (2,))]),
+    Scene("ahead, of none", lambda rows: Ahead(rows[0]), [[END]], [(END, (1,))])]
+
+WINDOWS_SCENES = [
+    Scene(
+        "windows, a step less than the size",
+        lambda rows: Windows(rows[0], 3, 2),
+        [[*gifts(1, 2, 3, 4, 5, 6), END]],
+        [(gift(1, 2, 3), (3,)), (gift(3, 4, 5), (5,)), (END, (7,))]),
+    Scene(
+        "windows, a step of 1",
+        lambda rows: Windows(rows[0], 3, 1),
+        [[*gifts(1, 2, 3), gift(4, 4), TORN]],
+        [(gift(1, 2, 3), (3,)), (gift(2, 3, (4, 4)), (4,)), (TORN, (5,))]),
+    Scene(
+        "windows, a step equal to the size",
+        lambda rows: Windows(rows[0], 2, 2),
+        [[*gifts(1, 2, 3, 4, 5), END]],
+        [(gift(1, 2), (2,)), (gift(3, 4), (4,)), (END, (6,))]),
+    Scene(
+        "windows, a step greater than the size",
+        lambda rows: Windows(rows[0], 2, 4),
+        [[*gifts(1, 2, 3, 4, 5, 6, 7, 8, 9), END]],
+        [(gift(1, 2), (2,)), (gift(5, 6), (6,)), (END, (10,))]),
+    Scene(
+        "windows, the end between two",
+        lambda rows: Windows(rows[0], 1, 4),
+        [[*gifts(1, 2, 3), END]],
+        [(("gift", (1,)), (1,)), (END, (4,))]),
+    Scene(
+        "windows, a fault between two",
+        lambda rows: Windows(rows[0], 2, 5),
+        [[*gifts(1, 2, 3), GONE]],
+        [(gift(1, 2), (2,)), (GONE, (4,))]),
+    Scene(
+        "windows, of one by one",
+        lambda rows: Windows(rows[0], 1, 1),
+        [[*gifts(1), gift(2, 3), END]],
+        [(("gift", (1,)), (1,)), (("gift", ((2, 3),)), (2,)), (END, (3,))]),
+    Scene(
+        "windows, the first one lacks some",
+        lambda rows: Windows(rows[0], 4, 1),
+        [[*gifts(1, 2, 3), END]],
+        [(END, (4,))]),
+    Scene("windows, of none", lambda rows: Windows(rows[0], 1, 1), [[END]], [(END, (1,))])]
+
+GROUPS_SCENES = [
+    Scene(
+        "groups",
+        lambda rows: Groups(rows[0], lambda g: g),
+        [[*gifts(1, 1, -2, -2, -2, 1), END]],
+        [(gift(1), (1,)), (gift(-2), (3,)), (gift(1), (6,)), (END, (7,))]),
+    Scene(
+        "groups, by a mark of tuples and numbers",
+        lambda rows: Groups(rows[0], lambda g: len(g) if isinstance(g, tuple) else -1),
+        [[*gifts(1, 2), gift(), gift(4, 5), gift(6, 6), *gifts(7), TORN]],
+        [(gift(-1), (1,)), (gift(0), (3,)), (gift(2), (4,)), (gift(-1), (6,)), (TORN, (7,))]),
+    Scene(
+        "groups, each of one gift",
+        lambda rows: Groups(rows[0], lambda g: -g),
+        [[*gifts(1, 2, 3), GONE]],
+        [(gift(-1), (1,)), (gift(-2), (2,)), (gift(-3), (3,)), (GONE, (4,))]),
+    Scene(
+        "groups, all of them one",
+        lambda rows: Groups(rows[0], lambda g: 0),
+        [[*gifts(1, 2, 3), END]],
+        [(gift(0), (1,)), (END, (4,))]),
+    Scene("groups, of none", lambda rows: Groups(rows[0], lambda g: 0), [[END]], [(END, (1,))])]
+
+WIDE_SCENES = [
+    Scene(
+        "windows of groups of chained of windows",
+        lambda rows: Windows(
+            Groups(Chained([Windows(rows[0], 2, 2), rows[1]]), lambda g: g[0] // 4), 2, 1),
+        [[*gifts(1, 9, 3, 9, 5, 9, 7, 9, 8), END], [gift(5, 0), gift(9, 0), END]],
+        [(gift(0, 1), (6, 0)), (gift(1, 2), (10, 2)), (END, (10, 3))]),
+    Scene(
+        "ahead of beside of windows that lie apart and of groups",
+        lambda rows: Ahead(Beside([Windows(rows[0], 1, 3), Groups(rows[1], lambda g: g)])),
+        [gifts(1, 2, 3, 4, 5, 6, 7), [*gifts(8, 8, 9), TORN]],
+        [(gift((1,), 8), (1, 1)), (gift((4,), 9), (4, 3)), (TORN, (7, 4))]),
+    Scene(
+        "groups of groups of sieved of ahead",
+        lambda rows: Groups(Groups(Sieved(Ahead(rows[0]), is_even), lambda g: g // 10),
+                            lambda g: g // 3),
+        [[*gifts(2, 12, 13, 14, 22, 30, 1, 90), END]],
+        [(gift(0), (1,)), (gift(1), (6,)), (gift(3), (8,)), (END, (9,))])]
+
+STAGE_THREE = AHEAD_SCENES + WINDOWS_SCENES + GROUPS_SCENES + WIDE_SCENES
 
 STAGE_TWO = TURNED_SCENES + CUTS_SCENES + JOINED_SCENES + DEEP_SCENES

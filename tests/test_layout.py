@@ -25,7 +25,15 @@ PLACES = {
         "ToldBy": ["__init__", "drawn"]},
     "turned": {"Turned": UPON_OTHERS, "Sieved": UPON_OTHERS},
     "cuts": {"Cut": UPON_OTHERS, "Left": UPON_OTHERS, "Upto": UPON_OTHERS},
-    "joined": {"Chained": UPON_OTHERS, "Beside": UPON_OTHERS}}
+    "joined": {"Chained": UPON_OTHERS, "Beside": UPON_OTHERS},
+    "ahead": {"Ahead": [*UPON_OTHERS, "look"]},
+    "windows": {"Windows": UPON_OTHERS},
+    "groups": {
+        "Groups": [*UPON_OTHERS, "at_close", "group"],
+        "Group": ["__init__", "next_answer", "may_copy", "groups"]},
+    "splits": {
+        "split": [],
+        "Reader": [*UPON_OTHERS, "at_close", "kept", "place", "split_row"]}}
 
 FOLDER = os.path.join(os.path.dirname(os.path.dirname(os.path.abspath(__file__))), "giftstreams")
 

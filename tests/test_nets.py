@@ -8,7 +8,7 @@ from giftstreams.joined import Beside, Chained
 from giftstreams.sources import Counted
 from giftstreams.turned import Sieved, Turned
 from tests.helpers import asked, gifts_forever
-from tests.likeness import LOWEST, OTHERS, WAYS, grown
+from tests.likeness import LOWEST, OTHERS, READERS_TOO, WAYS, grown
 from tests.scenes import leaves
 
 END = ("end",)
@@ -24,13 +24,13 @@ class LikenessTest(unittest.TestCase):
 
     def test_one_and_two_deep(self):
         for depth in (1, 2):
-            for names in itertools.product(WAYS, repeat=depth):
+            for names in itertools.product(READERS_TOO, repeat=depth):
                 for lowest, other in itertools.product(LOWEST, OTHERS):
                     with self.subTest(names, lowest=lowest, other=other):
                         self.agree(*grown(names, lowest, other))
 
     def test_three_deep(self):
-        for names in itertools.product(WAYS, repeat=3):
+        for names in itertools.product(READERS_TOO, repeat=3):
             with self.subTest(names):
                 self.agree(*grown(names, LOWEST[-1], OTHERS[-1]))
 

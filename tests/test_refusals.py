@@ -4,12 +4,16 @@ nothing is changed by a refusal."""
 import itertools
 import unittest
 
+from giftstreams.ahead import Ahead
 from giftstreams.cuts import Cut, Left, Upto
 from giftstreams.errors import Closed, Held, NoCount, NoRow
+from giftstreams.groups import Groups
 from giftstreams.joined import Beside, Chained
 from giftstreams.rows import Row
 from giftstreams.sources import Listed
+from giftstreams.splits import split
 from giftstreams.turned import Sieved, Turned
+from giftstreams.windows import Windows
 from tests.helpers import (
     Thing, asked, closed_row, free_row, gifts_forever, held_and_closed_row, held_row, no_lists,
     no_rows, no_wholes, stands)
@@ -28,12 +32,18 @@ UPON_ONE = [
     ("Sieved", lambda row: Sieved(row, always)),
     ("Cut", lambda row: Cut(row, 3)),
     ("Left", lambda row: Left(row, 0)),
-    ("Upto", lambda row: Upto(row, always))]
+    ("Upto", lambda row: Upto(row, always)),
+    ("Ahead", Ahead),
+    ("Windows", lambda row: Windows(row, 1, 1)),
+    ("Groups", lambda row: Groups(row, same))]
 
 # The least and the greatest count, and how the row is made with a count.
 WITH_COUNT = [
     ("Cut", 0, 200, Cut),
-    ("Left", 0, 200, Left)]
+    ("Left", 0, 200, Left),
+    ("Windows, the size", 1, 20, lambda row, n: Windows(row, n, 3)),
+    ("Windows, the step", 1, 20, lambda row, n: Windows(row, 3, n)),
+    ("Windows, both", 1, 20, lambda row, n: Windows(row, n, n))]
 
 # The fewest rows, and what is made of a list of rows.
 UPON_SEVERAL = [("Chained", 0, Chained), ("Beside", 1, Beside)]
@@ -126,6 +136,41 @@ class CountTest(RefusalTest):
                     with self.subTest(name, kind=kind, count=count):
                         row = KINDS[kind]()
                         self.refuses(first_due([kind]), make, [row], row, count)
+
+
+class SplitTest(RefusalTest):
+
+    def test_what_is_no_row(self):
+        for thing in [*no_rows(), [free_row()], (free_row(),)]:
+            for many in (2, 0, None):
+                with self.subTest(thing=thing, many=many):
+                    self.refuses(NoRow, split, [], thing, many)
+
+    def test_held_ahead_of_closed_ahead_of_the_count(self):
+        for kind in ("held", "closed", "both"):
+            for many in (1, 6, 0, 7, True, None, "2", []):
+                with self.subTest(kind=kind, many=many):
+                    row = KINDS[kind]()
+                    self.refuses(first_due([kind]), split, [row], row, many)
+
+    def test_of_anything_but_a_count(self):
+        for thing in [*no_wholes(), 0, 7, -1, -6, 200, 10 ** 20]:
+            with self.subTest(thing=thing):
+                log = []
+                row = gifts_forever(log)
+                self.refuses(NoCount, split, [row], row, thing)
+                self.assertEqual((log, row.drawn()), ([], 0))
+                self.assertEqual(len(split(row, 6)), 6)
+
+    def test_held_from_then_on(self):
+        for many in range(1, 7):
+            row = free_row()
+            readers = split(row, many)
+            self.assertEqual(len(readers), many)
+            self.assertEqual(stands(row), (False, False, True, []))
+            for reader in readers:
+                self.assertEqual(stands(reader), (False, False, False, []))
+            self.refuses(Held, split, [row, *readers], row, many)
 
 
 class UponSeveralTest(RefusalTest):

@@ -5,9 +5,9 @@ import unittest
 
 from giftstreams.errors import Closed, Held
 from tests.helpers import Plain, asked
-from tests.scenes import END, STAGE_TWO, ends, leaves, shape
+from tests.scenes import END, STAGE_THREE, STAGE_TWO, ends, leaves, shape
 
-SCENES = STAGE_TWO
+SCENES = STAGE_TWO + STAGE_THREE
 MOMENTS = [(scene, many) for scene in SCENES for many in range(len(scene.answers) + 1)]
 
 
