@@ -361,6 +361,24 @@ class GroupsCopyTest(unittest.TestCase):
         with self.assertRaises(NoGroup):
             groups.group()
 
+    def test_the_copy_asks_for_the_marks_of_its_own_draws_alone(self):
+        log = []
+        given = [answer[1] for answer in SCRIPTS[0] if answer != END]
+        for acts in itertools.product(ACTS, repeat=3):
+            with self.subTest(acts=acts):
+                groups = Groups(scripted(SCRIPTS[0], []), lambda g: log.append(g) or tens(g))
+                for act in acts:
+                    act_on(groups, act)
+                drawn = groups.beneath()[0].drawn()
+                del log[:]
+                other = groups.copied()
+                self.assertEqual(log, [])
+                asked(other, 4)
+                self.assertEqual(log, given[drawn:])
+                del log[:]
+                asked(groups, 4)
+                self.assertEqual(log, given[drawn:])
+
     def test_the_copys_group_draws_from_the_copys_row(self):
         log = []
         groups = Groups(gifts_forever(log), lambda g: g // 3)
