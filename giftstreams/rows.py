@@ -4,10 +4,15 @@ are closed and copied."""
 from giftstreams.errors import Closed, Held, NoCopy, NoRow
 
 
-def want_free(rows):
-    """Refuse anything but a list of free rows in which none stands twice."""
+def want_rows(rows):
+    """Refuse anything but a list of rows, however they stand."""
     if not isinstance(rows, list) or not all([isinstance(row, Row) for row in rows]):
         raise NoRow("a row is wanted, and rows in a list")
+
+
+def want_free(rows):
+    """Refuse anything but a list of free rows in which none stands twice."""
+    want_rows(rows)
     if any([row.is_held() for row in rows]) or _one_stands_twice(rows):
         raise Held("the row is held, or it stands twice")
     if any([row.is_closed() for row in rows]):

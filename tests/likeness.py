@@ -7,6 +7,7 @@ from giftstreams.ahead import Ahead
 from giftstreams.cuts import Cut, Left, Upto
 from giftstreams.groups import Groups
 from giftstreams.joined import Beside, Chained
+from giftstreams.spares import Spare, Wanted
 from giftstreams.splits import split
 from giftstreams.turned import Sieved, Turned
 from giftstreams.windows import Windows
@@ -92,6 +93,24 @@ def marks(iterator):
     return (key for key, _ in itertools.groupby(iterator, mark))
 
 
+def spared(one, other):
+    try:
+        yield from one
+        return
+    except Fault:
+        pass
+    yield from other
+
+
+def wanted(iterator, n):
+    told = 0
+    for thing in iterator:
+        told += 1
+        yield thing
+    if told < n:
+        raise Fault("wanted")
+
+
 # Of a row and another one: how a third one is made, and how its likeness.
 WAYS = {
     "turned": (
@@ -131,7 +150,14 @@ WAYS = {
         lambda one, other: Windows(one, 2, 2), lambda one, other: windows(one, 2, 2)),
     "windows 1 by 3": (
         lambda one, other: Windows(one, 1, 3), lambda one, other: windows(one, 1, 3)),
-    "groups": (lambda one, other: Groups(one, mark), lambda one, other: marks(one))}
+    "groups": (lambda one, other: Groups(one, mark), lambda one, other: marks(one)),
+    "spare to the left": (lambda one, other: Spare(one, other), spared),
+    "spare to the right": (
+        lambda one, other: Spare(other, one), lambda one, other: spared(other, one)),
+    "wanted 2": (
+        lambda one, other: Wanted(one, 2, "wanted"), lambda one, other: wanted(one, 2)),
+    "wanted 5": (
+        lambda one, other: Wanted(one, 5, "wanted"), lambda one, other: wanted(one, 5))}
 
 # Their copies hang on the same source as they do.
 READERS_TOO = {

@@ -43,10 +43,12 @@ def ends(script):
 
 class Scene:
     """Scripts of the sources' answers; how the row is made upon the sources;
-    the answer of each asking, with how often each source was drawn behind it."""
+    the answer of each asking, with how often each source was drawn behind it;
+    the first answer where the sources are over already."""
 
-    def __init__(self, name, make, scripts, steps):
+    def __init__(self, name, make, scripts, steps, of_ended=END):
         self.name = name
+        self.of_ended = of_ended
         self.make = make
         self.scripts = [script if ends(script) else [*script, END] for script in scripts]
         self.answers = [answer for answer, _ in steps]

@@ -33,7 +33,10 @@ PLACES = {
         "Group": ["__init__", "next_answer", "may_copy", "groups"]},
     "splits": {
         "split": [],
-        "Reader": [*UPON_OTHERS, "at_close", "kept", "place", "split_row"]}}
+        "Reader": [*UPON_OTHERS, "at_close", "kept", "place", "split_row"]},
+    "spares": {"Spare": [*UPON_OTHERS, "noted"], "Wanted": UPON_OTHERS},
+    "nets": {"taken": [], "sources_of": []},
+    "rules": {"is_rule": [], "is_test": [], "rule_told": [], "test_told": []}}
 
 FOLDER = os.path.join(os.path.dirname(os.path.dirname(os.path.abspath(__file__))), "giftstreams")
 

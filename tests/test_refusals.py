@@ -11,6 +11,7 @@ from giftstreams.groups import Groups
 from giftstreams.joined import Beside, Chained
 from giftstreams.rows import Row
 from giftstreams.sources import Listed
+from giftstreams.spares import Wanted
 from giftstreams.splits import split
 from giftstreams.turned import Sieved, Turned
 from giftstreams.windows import Windows
@@ -35,7 +36,8 @@ UPON_ONE = [
     ("Upto", lambda row: Upto(row, always)),
     ("Ahead", Ahead),
     ("Windows", lambda row: Windows(row, 1, 1)),
-    ("Groups", lambda row: Groups(row, same))]
+    ("Groups", lambda row: Groups(row, same)),
+    ("Wanted", lambda row: Wanted(row, 0, "torn"))]
 
 # The least and the greatest count, and how the row is made with a count.
 WITH_COUNT = [
@@ -43,7 +45,8 @@ WITH_COUNT = [
     ("Left", 0, 200, Left),
     ("Windows, the size", 1, 20, lambda row, n: Windows(row, n, 3)),
     ("Windows, the step", 1, 20, lambda row, n: Windows(row, 3, n)),
-    ("Windows, both", 1, 20, lambda row, n: Windows(row, n, n))]
+    ("Windows, both", 1, 20, lambda row, n: Windows(row, n, n)),
+    ("Wanted", 0, 200, lambda row, n: Wanted(row, n, "torn"))]
 
 # The fewest rows, and what is made of a list of rows.
 UPON_SEVERAL = [("Chained", 0, Chained), ("Beside", 1, Beside)]

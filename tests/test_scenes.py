@@ -6,8 +6,9 @@ import unittest
 from giftstreams.errors import Closed, Held
 from tests.helpers import Plain, asked
 from tests.scenes import END, STAGE_THREE, STAGE_TWO, ends, leaves, shape
+from tests.spare_scenes import STAGE_SIX
 
-SCENES = STAGE_TWO + STAGE_THREE
+SCENES = STAGE_TWO + STAGE_THREE + STAGE_SIX
 MOMENTS = [(scene, many) for scene in SCENES for many in range(len(scene.answers) + 1)]
 
 
@@ -100,7 +101,7 @@ class AnswersTest(SceneTest):
                     asked(leaf, len(script))
                 counts = drawn(lowest)
                 row = scene.make(lowest)
-                self.assertEqual(asked(row, 3), [END] * 3)
+                self.assertEqual(asked(row, 3), [scene.of_ended, END, END])
                 self.assertEqual(drawn(lowest), counts)
 
 
