@@ -1,7 +1,7 @@
 """Many answers of a row at once, and the sources on which a row hangs."""
 
 from giftstreams.groups import Group
-from giftstreams.rows import Row, want_free, want_rows
+from giftstreams.rows import want_free, want_rows
 from giftstreams.sources import Counted, Listed, ToldBy
 from giftstreams.splits import Reader
 from giftstreams.wholes import want_count

@@ -12,7 +12,7 @@ from giftstreams.spares import Spare
 from tests.model import Chance
 from tests.twins import ENDS, Net
 
-ACTS = ["ask"] * 6 + ["grow"] * 6 + ["group"] * 4 + [
+ACTS = ["ask"] * 6 + ["grow"] * 6 + ["plan"] * 2 + ["group"] * 4 + [
     "take", "take", "look", "look", "split", "copy", "close", "refused", "refused"]
 SORT_OF = {"look": Ahead, "group": Groups}
 
@@ -76,6 +76,8 @@ class AllSortsTest(unittest.TestCase):
             twins = [twin for twin in net.twins if twin not in free]
         if act == "grow":
             net.grow()
+        elif act == "plan" and len(net.twins) < 150:
+            net.grow_plan()
         elif twins and act == "refused":
             self.refused(net.chance.one_of(twins))
         elif twins and len(net.twins) < 150:
@@ -148,6 +150,7 @@ class AllSortsTest(unittest.TestCase):
                     seen["noted"] = seen.get("noted", 0) + 1
             seen["deep"] = max(seen.get("deep", 0), max(twin.model.depth() for twin in net.twins))
         for name in ("Turned", "Sieved", "Cut", "Left", "Upto", "Chained", "Beside", "Ahead",
-                     "Windows", "Groups", "Group", "Reader", "Spare", "Wanted", "ToldBy", "noted"):
+                     "Windows", "Groups", "Group", "Reader", "Spare", "Wanted", "ToldBy", "Listed",
+                     "Counted", "noted"):
             self.assertGreaterEqual(seen.get(name, 0), 5, name)
         self.assertGreaterEqual(seen["deep"], 7)

@@ -5,6 +5,7 @@ from giftstreams.cuts import Cut, Left, Upto
 from giftstreams.groups import Group, Groups
 from giftstreams.joined import Beside, Chained
 from giftstreams.nets import sources_of
+from giftstreams.plans import grown
 from giftstreams.spares import Spare, Wanted
 from giftstreams.splits import Reader, split
 from giftstreams.turned import Sieved, Turned
@@ -12,6 +13,7 @@ from giftstreams.windows import Windows
 from tests import model
 from tests.helpers import scripted
 from tests.likeness import is_even, is_light, mark, weight, with_weight
+from tests.plan_kit import WORDS, Planner, model_of
 
 ENDS = [("end",), ("end",), ("fault", "torn"), ("fault", "gone"), ("fault", "")]
 
@@ -100,6 +102,22 @@ class Net:
         if sum(twin.bulk for twin in rows) > 60 or max(twin.model.depth() for twin in rows) > 15:
             return
         self.add(*of_sort(sort, rows, self.chance))
+
+    def grow_plan(self):
+        """Put what a plan tells upon some free ones."""
+        free = [twin for twin in self.free() if twin.bulk < 5 and twin.model.depth() < 10]
+        rows = [free.pop(self.chance.below(len(free))) for _ in range(min(3, len(free)))]
+        planner = Planner(self.chance.below(10 ** 6), WORDS, len(rows))
+        plan = planner.plan(2 + self.chance.below(7))
+        row = grown(plan, [twin.row for twin in rows])
+        self.add_unknown(row, model_of(plan, [twin.model for twin in rows]), 30)
+
+    def add_unknown(self, row, likened, bulk):
+        if any(twin.row is row for twin in self.twins):
+            return
+        self.add(row, likened, bulk)
+        for lower, lower_likened in zip(row.beneath(), likened.low):
+            self.add_unknown(lower, lower_likened, bulk)
 
     def split(self, twin):
         many = 1 + self.chance.below(3)
